@@ -498,3 +498,36 @@ func TestMemory(t *testing.T) {
 		t.Errorf("Read: got %s and %v, want %s", shown(three), err, shown(p))
 	}
 }
+
+// P2, P4: a copy is the same, whatever it is a copy of, and shares no memory
+// with it, nor two of its lists with each other.
+func TestCopy(t *testing.T) {
+	memory := slices.Concat(nots(1, variable("a")), truth(1), variable("b"))
+	conds := []cond{when(memory[:2]), unless(memory[2:3]), when(memory[:2]), when(nil), unless(nil)}
+	for _, p := range []policy{
+		{},
+		{Name: "\n", Forbid: true, Who: scope{Op: -1, Type: "A", Uid: uidOf("A", "a")}, Conds: conds[:4]},
+		{Name: "p", Act: scope{Op: api.Below, Uid: uidOf("A", "a")}, What: scope{Op: api.SameSlot}, Conds: conds[:3]},
+		{Name: "p", Conds: slices.Repeat(conds[:3], 100)},
+	} {
+		before, all := slices.Clone(memory), cloned(policy{Conds: conds})
+		copied, again := pol.Copy(p), pol.Copy(p)
+		if !same(copied, p) {
+			t.Errorf("got %s, want %s", shown(copied), shown(p))
+		}
+		for i, c := range copied.Conds {
+			if !slices.Equal(c.Expr, again.Conds[i].Expr) {
+				t.Errorf("two lists of %s share memory", shown(p))
+			}
+			for j := range c.Expr[:cap(c.Expr)] {
+				c.Expr[:cap(c.Expr)][j] = api.Node{Op: api.Num, N: j}
+			}
+		}
+		for i := range copied.Conds[:cap(copied.Conds)] {
+			copied.Conds[:cap(copied.Conds)][i] = cond{Unless: i%2 == 0}
+		}
+		if !same(again, p) || !slices.Equal(memory, before) || !same(policy{Conds: conds}, all) {
+			t.Errorf("it was written into %s", shown(conds))
+		}
+	}
+}
